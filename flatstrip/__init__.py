@@ -1,0 +1,1 @@
+"""Flatstrip: strips of paper with creases, folded flat."""
